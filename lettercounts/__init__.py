@@ -1,0 +1,1 @@
+"""How often each letter stands in the words that a grammar says."""

@@ -1,0 +1,137 @@
+"""Grammars, their trees, and how often each letter stands in what the trees say.
+
+Counts are kept in tables with one place for each way to take some of the
+counts asked for: the place of taken[0], taken[1], .. is the sum of
+taken[x] * weights[x]. So the place of two counts together is the sum of
+their places, and the last place is that of all the counts.
+"""
+
+MOST_VARIABLES = 8
+MOST_LETTERS = 4
+MOST_RULES = 64
+MOST_TOGETHER = 24
+LETTER_MARK = 255
+
+
+def sizes_fit(v, l, r):
+    """Whether v, l and r are in their ranges."""
+    return 1 <= v <= MOST_VARIABLES and 1 <= l <= MOST_LETTERS and 1 <= r <= MOST_RULES
+
+
+def rule_triples(rules):
+    """The rules one by one: each a variable, then two variables or a letter and the mark."""
+    return [(rules[k], rules[k + 1], rules[k + 2]) for k in range(0, len(rules), 3)]
+
+
+def rule_fits(rule, v, l):
+    """Whether a rule speaks only of variables below v and letters below l."""
+    if rule[0] >= v:
+        return False
+    if rule[2] == LETTER_MARK:
+        return rule[1] < l
+    return rule[1] < v and rule[2] < v
+
+
+def refusal(v, l, r, rules, counts):
+    """The number that refuses a grammar and counts, or 0 if they are as they should be."""
+    if not sizes_fit(v, l, r):
+        return -2
+    if sum(counts) > MOST_TOGETHER:
+        return -3
+    for rule in rule_triples(rules):
+        if not rule_fits(rule, v, l):
+            return -3
+    return 0
+
+
+def letter_weights(counts):
+    """How far apart two places are that differ by one of a letter, for each letter."""
+    weights = []
+    weight = 1
+    for count in reversed(counts):
+        weights.append(weight)
+        weight = weight * (count + 1)
+    return list(reversed(weights))
+
+
+def table_size(counts):
+    """How many places a table for these counts has."""
+    size = 1
+    for count in counts:
+        size = size * (count + 1)
+    return size
+
+
+def places_within(place, counts, weights):
+    """The places of all counts that are for no letter above those of the place, in rising order."""
+    places = [0]
+    for count, weight in zip(counts, weights):
+        taken = place // weight % (count + 1)
+        longer = []
+        for start in places:
+            longer.extend([start + weight * k for k in range(taken + 1)])
+        places = longer
+    return places
+
+
+def letter_tables(v, triples, counts, weights):
+    """For each variable a table of its trees that are a letter alone."""
+    tables = [[0] * table_size(counts) for variable in range(v)]
+    for triple in triples:
+        # A letter that is not asked for has no place of its own: its weight is another letter's place.
+        if triple[2] == LETTER_MARK and counts[triple[1]] > 0:
+            tables[triple[0]][weights[triple[1]]] += 1
+    return tables
+
+
+def pairs_with_heads(triples):
+    """For each pair of variables that rules come to, the variables of these rules, one for each rule.
+
+    Counts don't tell which of two trees stands first, so b c and c b are one pair.
+    """
+    heads = {}
+    for triple in triples:
+        if triple[2] != LETTER_MARK:
+            pair = (min(triple[1], triple[2]), max(triple[1], triple[2]))
+            heads.setdefault(pair, []).append(triple[0])
+    return heads
+
+
+def numbers_at(table, places):
+    """What stands in the table at each of the places."""
+    return [table[place] for place in places]
+
+
+def sum_of_products(xs, ys):
+    """Each of xs times the one of ys beside it, all together."""
+    return sum([x * y for x, y in zip(xs, ys)])
+
+
+def count_trees(v, rules, counts):
+    """How many trees of variable 0 say words that have the counts."""
+    triples = rule_triples(rules)
+    weights = letter_weights(counts)
+    tables = letter_tables(v, triples, counts, weights)
+    heads = pairs_with_heads(triples)
+    # No tree says an empty word, so both trees of a pair have places below the one that is filled.
+    for place in range(1, table_size(counts)):
+        within = places_within(place, counts, weights)
+        # What is left of the place beside within[k] is within[-1 - k]: the same places from behind.
+        rising = [numbers_at(table, within) for table in tables]
+        falling = [list(reversed(numbers)) for numbers in rising]
+        for pair, variables in heads.items():
+            number = sum_of_products(rising[pair[0]], falling[pair[1]])
+            for variable in variables:
+                tables[variable][place] += number
+    return tables[0][-1]
+
+
+def lc_has(v, l, r, rules, counts):
+    """1 if some tree of variable 0 says a word that has the counts, else 0; or a refusal."""
+    refused = refusal(v, l, r, rules, counts)
+    if refused != 0:
+        return [refused]
+    if count_trees(v, rules, counts) > 0:
+        return [1]
+    return [0]
+

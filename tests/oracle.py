@@ -1,0 +1,62 @@
+"""Answers by going through all words, for grammars and counts that are small enough."""
+
+import random
+
+
+def words_with(counts):
+    """All words that have the counts, each once."""
+    if sum(counts) == 0:
+        return [()]
+    words = []
+    for letter, count in enumerate(counts):
+        if count > 0:
+            rest = list(counts)
+            rest[letter] -= 1
+            words.extend((letter,) + word for word in words_with(rest))
+    return words
+
+
+def trees_of_word(variable, word, triples, known):
+    """How many trees of the variable say just this word, letter for letter."""
+    key = (variable, word)
+    if key not in known:
+        number = 0
+        for head, second, third in triples:
+            if head != variable:
+                continue
+            if third == 255:
+                number += word == (second,)
+                continue
+            for cut in range(1, len(word)):
+                left = trees_of_word(second, word[:cut], triples, known)
+                if left:
+                    number += left * trees_of_word(third, word[cut:], triples, known)
+        known[key] = number
+    return known[key]
+
+
+def trees_by_words(rules, counts):
+    """How many trees of variable 0 say words that have the counts."""
+    triples = list(zip(rules[0::3], rules[1::3], rules[2::3]))
+    known = {}
+    return sum(trees_of_word(0, word, triples, known) for word in words_with(counts))
+
+
+def random_cases(seed, number):
+    """Grammars with small counts, the same for the same seed: (v, l, r, rules, counts)."""
+    source = random.Random(seed)
+    for case in range(number):
+        v = source.randint(1, 4)
+        l = source.randint(1, 4)
+        r = source.randint(1, 9)
+        rules = []
+        for rule in range(r):
+            rules.append(source.randrange(v))
+            if source.randrange(2):
+                rules.extend([source.randrange(v), source.randrange(v)])
+            else:
+                rules.extend([source.randrange(l), 255])
+        counts = [0] * l
+        for letter in range(source.randint(0, 5)):
+            counts[source.randrange(l)] += 1
+        yield v, l, r, rules, counts
