@@ -10,6 +10,7 @@ MOST_VARIABLES = 8
 MOST_LETTERS = 4
 MOST_RULES = 64
 MOST_TOGETHER = 24
+MOST_DIVISOR = 2147483647
 LETTER_MARK = 255
 
 
@@ -135,3 +136,12 @@ def lc_has(v, l, r, rules, counts):
         return [1]
     return [0]
 
+
+def lc_trees(v, l, r, p, rules, counts):
+    """0, then how many trees as in lc_has there are, as the rest by p; or a refusal."""
+    if p < 2 or p > MOST_DIVISOR:
+        return [-2]
+    refused = refusal(v, l, r, rules, counts)
+    if refused != 0:
+        return [refused]
+    return [0, count_trees(v, rules, counts) % p]

@@ -27,6 +27,19 @@ def full_grammar():
     return rules
 
 
+def even_grammar():
+    """64 rules: each of 8 variables comes to each of 4 letters once, and to pairs by four rules.
+
+    So all variables have the same trees but for the variables' numbers.
+    """
+    rules = []
+    for a in range(8):
+        for k in range(4):
+            rules.extend([a, (a + k) % 8, (3 * a + 5 * k) % 8])
+            rules.extend([a, k, 255])
+    return rules
+
+
 # (v, l, r) of which one number is out of its range.
 WRONG_SIZES = [
     (0, 1, 1), (9, 1, 1), (-1, 1, 1), (LEAST, 1, 1), (MOST, 1, 1), (255, 4, 64),
