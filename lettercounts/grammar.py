@@ -75,32 +75,67 @@ def places_within(place, counts, weights):
     return places
 
 
-def letter_tables(v, triples, counts, weights):
-    """For each variable a table of its trees that are a letter alone."""
-    tables = [[0] * table_size(counts) for variable in range(v)]
-    for triple in triples:
-        # A letter that is not asked for has no place of its own: its weight is another letter's place.
-        if triple[2] == LETTER_MARK and counts[triple[1]] > 0:
-            tables[triple[0]][weights[triple[1]]] += 1
-    return tables
+def in_either_order(triples):
+    """The rules with the lesser variable of two in front: counts don't tell which of two trees stands first.
+
+    The mark is greater than every letter, so rules of a letter stay as they are.
+    """
+    return [(triple[0], min(triple[1], triple[2]), max(triple[1], triple[2])) for triple in triples]
 
 
 def pairs_with_heads(triples):
-    """For each pair of variables that rules come to, the variables of these rules, one for each rule.
-
-    Counts don't tell which of two trees stands first, so b c and c b are one pair.
-    """
+    """For each pair of variables that rules come to, the variables of these rules, one for each rule."""
     heads = {}
     for triple in triples:
         if triple[2] != LETTER_MARK:
-            pair = (min(triple[1], triple[2]), max(triple[1], triple[2]))
-            heads.setdefault(pair, []).append(triple[0])
+            heads.setdefault((triple[1], triple[2]), []).append(triple[0])
     return heads
 
 
-def numbers_at(table, places):
+def letter_tables(v, triples, counts, letter_values, gather):
+    """For each variable a table of what its trees come to that are a letter alone."""
+    weights = letter_weights(counts)
+    tables = [[gather([])] * table_size(counts) for variable in range(v)]
+    for triple in triples:
+        # A letter that is not asked for has no place of its own: its weight is another letter's place.
+        if triple[2] == LETTER_MARK and counts[triple[1]] > 0:
+            table = tables[triple[0]]
+            place = weights[triple[1]]
+            table[place] = gather([table[place], letter_values[triple[1]]])
+    return tables
+
+
+def values_at(table, places):
     """What stands in the table at each of the places."""
     return [table[place] for place in places]
+
+
+def tree_tables(v, triples, counts, letter_values, combine, gather):
+    """For each variable a table of what its trees come to, of whatever sort that is.
+
+    letter_values holds what the tree of each letter comes to. combine takes two
+    equally long rows of values, of first trees and of the second trees beside
+    them, and answers what comes of them all; gather makes one value of several.
+    """
+    weights = letter_weights(counts)
+    tables = letter_tables(v, triples, counts, letter_values, gather)
+    heads = pairs_with_heads(triples)
+    # No tree says an empty word, so both trees of a pair have places below the one that is filled.
+    for place in range(1, table_size(counts)):
+        within = places_within(place, counts, weights)
+        # What is left of the place beside within[k] is within[-1 - k]: the same places from behind.
+        rising = [values_at(table, within) for table in tables]
+        falling = [list(reversed(row)) for row in rising]
+        for pair, variables in heads.items():
+            value = combine(rising[pair[0]], falling[pair[1]])
+            for variable in variables:
+                tables[variable][place] = gather([tables[variable][place], value])
+    return tables
+
+
+def total(numbers):
+    """All the numbers together."""
+    return sum(numbers)
 
 
 def sum_of_products(xs, ys):
@@ -110,20 +145,29 @@ def sum_of_products(xs, ys):
 
 def count_trees(v, rules, counts):
     """How many trees of variable 0 say words that have the counts."""
-    triples = rule_triples(rules)
-    weights = letter_weights(counts)
-    tables = letter_tables(v, triples, counts, weights)
-    heads = pairs_with_heads(triples)
-    # No tree says an empty word, so both trees of a pair have places below the one that is filled.
-    for place in range(1, table_size(counts)):
-        within = places_within(place, counts, weights)
-        # What is left of the place beside within[k] is within[-1 - k]: the same places from behind.
-        rising = [numbers_at(table, within) for table in tables]
-        falling = [list(reversed(numbers)) for numbers in rising]
-        for pair, variables in heads.items():
-            number = sum_of_products(rising[pair[0]], falling[pair[1]])
-            for variable in variables:
-                tables[variable][place] += number
+    triples = in_either_order(rule_triples(rules))
+    tables = tree_tables(v, triples, counts, [1] * len(counts), sum_of_products, total)
+    return tables[0][-1]
+
+
+def first_of(words):
+    """The first of some equally long words; the empty word stands for none."""
+    return min([word for word in words if word], default="")
+
+
+def first_joined(xs, ys):
+    """The first of the words that are one of xs and then the one of ys beside it, where neither is missing."""
+    return min([x + y for x, y in zip(xs, ys) if x and y], default="")
+
+
+def first_word(v, rules, counts):
+    """The first word that has the counts and that a tree of variable 0 says, a digit for each letter, or none.
+
+    Words with the same counts are equally long, so of two words in a row the
+    first comes of the first for the one part and the first for the other.
+    """
+    letters = [str(letter) for letter in range(len(counts))]
+    tables = tree_tables(v, rule_triples(rules), counts, letters, first_joined, first_of)
     return tables[0][-1]
 
 
@@ -145,3 +189,14 @@ def lc_trees(v, l, r, p, rules, counts):
     if refused != 0:
         return [refused]
     return [0, count_trees(v, rules, counts) % p]
+
+
+def lc_first(v, l, r, rules, counts):
+    """How many letters the first word has that a tree as in lc_has says, and these; or a refusal."""
+    refused = refusal(v, l, r, rules, counts)
+    if refused != 0:
+        return [refused]
+    word = first_word(v, rules, counts)
+    if word == "":
+        return [-5]
+    return [len(word)] + [int(letter) for letter in word]

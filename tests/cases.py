@@ -16,6 +16,15 @@ EIGHT_LONG = [0, 1, 7, 1, 2, 7, 2, 3, 7, 3, 4, 7, 4, 5, 7, 5, 6, 7, 6, 7, 7, 7, 
 TOO_LONG = [number for a in range(7) for number in (a, a + 1, a + 1)] + [7, 0, 255]
 
 
+# 0 says every word of letters 0 and 1 that is the same from behind and has an even number of letters.
+SAME_FROM_BEHIND = [0, 1, 1, 0, 2, 2, 0, 1, 3, 3, 0, 1, 0, 2, 4, 4, 0, 2, 1, 0, 255, 2, 1, 255]
+
+
+def brackets(left, right):
+    """0 says every word in which each letter called left is closed by one called right."""
+    return [0, 0, 0, 0, 1, 2, 0, 1, 3, 3, 0, 2, 1, left, 255, 2, right, 255]
+
+
 def full_grammar():
     """64 rules of 8 variables over 4 letters: every pair in some order, and letters for each variable."""
     rules = []

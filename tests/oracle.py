@@ -42,6 +42,16 @@ def trees_by_words(rules, counts):
     return sum(trees_of_word(0, word, triples, known) for word in words_with(counts))
 
 
+def first_by_words(rules, counts):
+    """The answer of lc_first, by asking of one word after another whether a tree of variable 0 says it."""
+    triples = list(zip(rules[0::3], rules[1::3], rules[2::3]))
+    known = {}
+    for word in sorted(words_with(counts)):
+        if trees_of_word(0, word, triples, known) > 0:
+            return [len(word)] + list(word)
+    return [-5]
+
+
 def random_cases(seed, number):
     """Grammars with small counts, the same for the same seed: (v, l, r, rules, counts)."""
     source = random.Random(seed)

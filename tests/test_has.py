@@ -1,10 +1,7 @@
-import contextlib
-import inspect
-import io
 import unittest
 
 from lettercounts.grammar import lc_has
-from tests import cases
+from tests import calls, cases
 from tests.oracle import random_cases, trees_by_words
 
 
@@ -108,62 +105,18 @@ class HasEdges(unittest.TestCase):
         self.assertEqual(lc_has(2, 1, 4, [0, 1, 1, 1, 0, 255] * 2, [2]), [1])
 
 
-class HasWrong(unittest.TestCase):
-    def test_sizes_out_of_range(self):
-        for v, l, r in cases.WRONG_SIZES:
-            self.assertEqual(lc_has(v, l, r, [], []), [-2], (v, l, r))
-
-    def test_rules_and_counts_that_are_not_so(self):
-        for v, l, rules, counts in cases.WRONG_GIVEN:
-            self.assertEqual(lc_has(v, l, len(rules) // 3, rules, counts), [-3], (v, l, rules, counts))
-
-    def test_a_wrong_rule_in_any_place(self):
-        for k in range(64):
-            rules = [0, 0, 255] * 64
-            rules[3 * k] = 1
-            self.assertEqual(lc_has(1, 1, 64, rules, [1]), [-3], k)
-
+class HasJustWithin(unittest.TestCase):
     def test_just_within(self):
         self.assertEqual(lc_has(8, 4, 2, [7, 7, 7, 0, 3, 255], [0, 0, 0, 1]), [1])
         self.assertEqual(lc_has(2, 1, 2, [0, 1, 1, 1, 0, 255], [24]), [0])
 
 
-class HasInterface(unittest.TestCase):
-    def test_names(self):
-        self.assertEqual(list(inspect.signature(lc_has).parameters), ["v", "l", "r", "rules", "counts"])
+class HasWrong(calls.Wrong, unittest.TestCase):
+    call = staticmethod(lc_has)
 
-    def test_a_list_of_whole_numbers_is_given_back(self):
-        for arguments in [(1, 1, 1, [0, 0, 255], [1]), (1, 1, 1, [0, 0, 255], [2]),
-                          (0, 1, 1, [], []), (1, 1, 1, [0, 0, 255], [25])]:
-            self.assertTrue(cases.is_list_of_numbers(lc_has(*arguments)), arguments)
 
-    def test_what_is_handed_in_stays(self):
-        for v, l, r, rules, counts in random_cases(2, 100):
-            first = lc_has(v, l, r, cases.Unchanging(rules), cases.Unchanging(counts))
-            given_rules = list(rules)
-            given_counts = list(counts)
-            self.assertEqual(lc_has(v, l, r, given_rules, given_counts), first)
-            self.assertEqual((given_rules, given_counts), (rules, counts))
-        rules = [1, 0, 255]
-        counts = [25]
-        self.assertEqual(lc_has(1, 1, 1, rules, counts), [-3])
-        self.assertEqual((rules, counts), ([1, 0, 255], [25]))
-
-    def test_nothing_is_kept(self):
-        calls = list(random_cases(3, 100)) + [(0, 1, 1, [], []), (1, 1, 1, [0, 0, 255], [25])]
-        forward = [lc_has(*call) for call in calls]
-        backward = [lc_has(*call) for call in reversed(calls)]
-        self.assertEqual(forward, backward[::-1])
-        answer = lc_has(1, 1, 1, [0, 0, 255], [1])
-        answer.append(7)
-        self.assertEqual(lc_has(1, 1, 1, [0, 0, 255], [1]), [1])
-
-    def test_nothing_is_printed(self):
-        printed = io.StringIO()
-        with contextlib.redirect_stdout(printed), contextlib.redirect_stderr(printed):
-            lc_has(1, 1, 2, cases.ALL_OF_ONE_LETTER, [5])
-            lc_has(0, 1, 1, [], [])
-        self.assertEqual(printed.getvalue(), "")
+class HasInterface(calls.Interface, unittest.TestCase):
+    call = staticmethod(lc_has)
 
 
 if __name__ == "__main__":
