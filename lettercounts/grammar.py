@@ -12,6 +12,8 @@ MOST_RULES = 64
 MOST_TOGETHER = 24
 MOST_DIVISOR = 2147483647
 LETTER_MARK = 255
+# Stands where there is no tree: of 24 letters no index is greater than 5, which is kept as 16.
+NO_INDEX = 64
 
 
 def sizes_fit(v, l, r):
@@ -171,6 +173,33 @@ def first_word(v, rules, counts):
     return tables[0][-1]
 
 
+def least_of(numbers):
+    """The least of the numbers; of none, that there is no index."""
+    return min(numbers, default=NO_INDEX)
+
+
+def highest_bit(number):
+    """The number with all its bits but the highest one taken away."""
+    return 1 << (number.bit_length() - 1)
+
+
+def least_joined(xs, ys):
+    """The least index of a tree of two, an x and the y beside it.
+
+    Index k is kept as a number that has k bits, of which the first alone is
+    set. So the sum of two has as many bits as the greater, or, if they are
+    the same, one more; and a lesser index of a part never makes a greater one.
+    """
+    return highest_bit(min([x + y for x, y in zip(xs, ys)]))
+
+
+def least_index(v, rules, counts):
+    """The least index of the trees of variable 0 that say words that have the counts, kept as in least_joined."""
+    triples = in_either_order(rule_triples(rules))
+    tables = tree_tables(v, triples, counts, [1] * len(counts), least_joined, least_of)
+    return tables[0][-1]
+
+
 def lc_has(v, l, r, rules, counts):
     """1 if some tree of variable 0 says a word that has the counts, else 0; or a refusal."""
     refused = refusal(v, l, r, rules, counts)
@@ -200,3 +229,14 @@ def lc_first(v, l, r, rules, counts):
     if word == "":
         return [-5]
     return [len(word)] + [int(letter) for letter in word]
+
+
+def lc_index(v, l, r, rules, counts):
+    """The least index of a tree as in lc_has; or a refusal."""
+    refused = refusal(v, l, r, rules, counts)
+    if refused != 0:
+        return [refused]
+    least = least_index(v, rules, counts)
+    if least == NO_INDEX:
+        return [-5]
+    return [least.bit_length()]

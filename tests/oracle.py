@@ -52,6 +52,36 @@ def first_by_words(rules, counts):
     return [-5]
 
 
+def indexes_of_word(variable, word, triples, known):
+    """The indexes of all trees of the variable that say just this word, each once."""
+    key = (variable, word)
+    if key not in known:
+        indexes = set()
+        for head, second, third in triples:
+            if head != variable:
+                continue
+            if third == 255:
+                if word == (second,):
+                    indexes.add(1)
+                continue
+            for cut in range(1, len(word)):
+                for i in indexes_of_word(second, word[:cut], triples, known):
+                    for j in indexes_of_word(third, word[cut:], triples, known):
+                        indexes.add(max(i, j) if i != j else i + 1)
+        known[key] = indexes
+    return known[key]
+
+
+def indexes_by_words(rules, counts):
+    """The indexes of all trees of variable 0 that say words that have the counts, each once."""
+    triples = list(zip(rules[0::3], rules[1::3], rules[2::3]))
+    known = {}
+    indexes = set()
+    for word in words_with(counts):
+        indexes |= indexes_of_word(0, word, triples, known)
+    return sorted(indexes)
+
+
 def random_cases(seed, number):
     """Grammars with small counts, the same for the same seed: (v, l, r, rules, counts)."""
     source = random.Random(seed)
