@@ -135,6 +135,36 @@ def tree_tables(v, triples, counts, letter_values, combine, gather):
     return tables
 
 
+def any_of(flags):
+    """Whether one of the flags is set."""
+    return any(flags)
+
+
+def both_somewhere(xs, ys):
+    """Whether somewhere one of xs and the one of ys beside it are both set."""
+    for x, y in zip(xs, ys):
+        if x and y:
+            return True
+    return False
+
+
+def says(variable, v, triples, counts):
+    """Whether some tree of the variable says a word that has the counts."""
+    tables = tree_tables(v, in_either_order(triples), counts, [True] * len(counts), both_somewhere, any_of)
+    return tables[variable][-1]
+
+
+def comes_back(a, v, rules, counts):
+    """Whether from a, by one rule or more, comes a row of one a and letters that have the counts.
+
+    The one a counts as one more letter, to which a alone comes: so the row is a word like others.
+    """
+    # A row of the one a alone comes by no rule: each rule to two variables puts some letter beside it.
+    if sum(counts) == 0:
+        return False
+    return says(a, v, rule_triples(rules) + [(a, len(counts), LETTER_MARK)], counts + [1])
+
+
 def total(numbers):
     """All the numbers together."""
     return sum(numbers)
@@ -205,7 +235,7 @@ def lc_has(v, l, r, rules, counts):
     refused = refusal(v, l, r, rules, counts)
     if refused != 0:
         return [refused]
-    if count_trees(v, rules, counts) > 0:
+    if says(0, v, rule_triples(rules), counts):
         return [1]
     return [0]
 
@@ -240,3 +270,15 @@ def lc_index(v, l, r, rules, counts):
     if least == NO_INDEX:
         return [-5]
     return [least.bit_length()]
+
+
+def lc_pump(v, l, r, a, rules, counts):
+    """1 if from a, by one rule or more, comes a row of one a and letters that have the counts, else 0; or a refusal."""
+    if a < 0 or a >= v:
+        return [-2]
+    refused = refusal(v, l, r, rules, counts)
+    if refused != 0:
+        return [refused]
+    if comes_back(a, v, rules, counts):
+        return [1]
+    return [0]

@@ -82,6 +82,48 @@ def indexes_by_words(rules, counts):
     return sorted(indexes)
 
 
+def as_it_stands(row):
+    return row
+
+
+def letters_first(row):
+    """The row in one order for all rows that have the same variables and letters."""
+    return tuple(sorted(row))
+
+
+def rows_from(a, triples, counts, tidy):
+    """All rows that come from variable a by one rule or more, with at most one more place than the counts have letters.
+
+    A letter x stands in a row as -1 - x, a variable as its number. No letter stands there more often than counted.
+    """
+    found = set()
+    waiting = [(a,)]
+    while waiting:
+        row = waiting.pop()
+        for place, part in enumerate(row):
+            for head, second, third in triples:
+                if head != part:
+                    continue
+                middle = (-1 - second,) if third == 255 else (second, third)
+                longer = tidy(row[:place] + middle + row[place + 1:])
+                if len(longer) > sum(counts) + 1 or longer in found:
+                    continue
+                if all(longer.count(-1 - x) <= count for x, count in enumerate(counts)):
+                    found.add(longer)
+                    waiting.append(longer)
+    return found
+
+
+def pump_by_rows(a, rules, counts, tidy=as_it_stands):
+    """The answer of lc_pump, by going through the rows that come from a; tidy may put each row in order."""
+    triples = list(zip(rules[0::3], rules[1::3], rules[2::3]))
+    for row in rows_from(a, triples, counts, tidy):
+        letters = [-1 - part for part in row if part < 0]
+        if [part for part in row if part >= 0] == [a] and [letters.count(x) for x in range(len(counts))] == counts:
+            return [1]
+    return [0]
+
+
 def random_cases(seed, number):
     """Grammars with small counts, the same for the same seed: (v, l, r, rules, counts)."""
     source = random.Random(seed)
