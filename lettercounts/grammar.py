@@ -4,11 +4,15 @@ Counts are kept in tables with one place for each way to take some of the
 counts asked for: the place of taken[0], taken[1], .. is the sum of
 taken[x] * weights[x]. So the place of two counts together is the sum of
 their places, and the last place is that of all the counts.
+
+A base and steps, each taken as often as one likes, come to counts as well:
+there the counts themselves are kept, each in a tuple, a number a letter.
 """
 
 MOST_VARIABLES = 8
 MOST_LETTERS = 4
 MOST_RULES = 64
+MOST_STEPS = 8
 MOST_TOGETHER = 24
 MOST_DIVISOR = 2147483647
 LETTER_MARK = 255
@@ -135,13 +139,13 @@ def tree_tables(v, triples, counts, letter_values, combine, gather):
     return tables
 
 
-def any_of(flags):
-    """Whether one of the flags is set."""
-    return any(flags)
+def any_of(truths):
+    """Whether one of them is True."""
+    return any(truths)
 
 
 def both_somewhere(xs, ys):
-    """Whether somewhere one of xs and the one of ys beside it are both set."""
+    """Whether somewhere one of xs and the one of ys beside it are both True."""
     for x, y in zip(xs, ys):
         if x and y:
             return True
@@ -230,6 +234,74 @@ def least_index(v, rules, counts):
     return tables[0][-1]
 
 
+def step_rows(l, steps):
+    """The steps one by one, each a tuple of l numbers."""
+    return [tuple(steps[k:k + l]) for k in range(0, len(steps), l)]
+
+
+def steps_refusal(l, c, base, steps, counts):
+    """The number that refuses a base, steps and counts, or 0 if they are as they should be."""
+    if l < 1 or l > MOST_LETTERS or c < 0 or c > MOST_STEPS:
+        return -2
+    if sum(base) > MOST_TOGETHER or sum(counts) > MOST_TOGETHER:
+        return -3
+    for step in step_rows(l, steps):
+        if sum(step) == 0 or sum(step) > MOST_TOGETHER:
+            return -3
+    return 0
+
+
+def joined(xs, ys):
+    """Each of xs and the one of ys beside it together."""
+    return tuple([x + y for x, y in zip(xs, ys)])
+
+
+def left_over(xs, ys):
+    """What is left of each of xs without the one of ys beside it."""
+    return tuple([x - y for x, y in zip(xs, ys)])
+
+
+def none_above(xs, ys):
+    """Whether none of xs is above the one of ys beside it."""
+    return all([x <= y for x, y in zip(xs, ys)])
+
+
+def sums_with(step, sums, most):
+    """The sums, and all that come of them by the step, taken as often as one likes, and are nowhere above most."""
+    more = dict(sums)
+    for start in sums:
+        longer = joined(start, step)
+        # No step is all 0, so at last some letter is above most.
+        while none_above(longer, most):
+            more[longer] = True
+            longer = joined(longer, step)
+    return more
+
+
+def sums_from_behind(rows, most):
+    """For each step the sums of it and those behind it, each as often as one likes; at the end those of no step."""
+    found = [{tuple([0] * len(most)): True}]
+    for step in reversed(rows):
+        found.insert(0, sums_with(step, found[0], most))
+    return found
+
+
+def first_times(rows, found, whole):
+    """How often each step is to be taken, so that they are together the whole, which is one of the sums found first.
+
+    A step is taken as few times as leave a sum of the steps behind it.
+    """
+    times = []
+    rest = whole
+    for step, behind in zip(rows, found[1:]):
+        number = 0
+        while rest not in behind:
+            rest = left_over(rest, step)
+            number = number + 1
+        times.append(number)
+    return times
+
+
 def lc_has(v, l, r, rules, counts):
     """1 if some tree of variable 0 says a word that has the counts, else 0; or a refusal."""
     refused = refusal(v, l, r, rules, counts)
@@ -282,3 +354,16 @@ def lc_pump(v, l, r, a, rules, counts):
     if comes_back(a, v, rules, counts):
         return [1]
     return [0]
+
+
+def lc_steps(l, c, base, steps, counts):
+    """0, then how often each step is taken so that base and steps are together the counts; or a refusal."""
+    refused = steps_refusal(l, c, base, steps, counts)
+    if refused != 0:
+        return [refused]
+    rows = step_rows(l, steps)
+    whole = left_over(counts, base)
+    found = sums_from_behind(rows, whole)
+    if whole not in found[0]:
+        return [-5]
+    return [0] + first_times(rows, found, whole)

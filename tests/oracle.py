@@ -1,5 +1,6 @@
 """Answers by going through all words, for grammars and counts that are small enough."""
 
+import itertools
 import random
 
 
@@ -124,6 +125,47 @@ def pump_by_rows(a, rules, counts, tidy=as_it_stands):
     return [0]
 
 
+def steps_by_search(l, base, steps, counts):
+    """The answer of lc_steps, by going through all numbers of times in order; no step is taken beyond the counts."""
+    rows = [steps[k:k + l] for k in range(0, len(steps), l)]
+    ranges = [range(1 + min(count // number for count, number in zip(counts, row) if number)) for row in rows]
+    for times in itertools.product(*ranges):
+        sums = [base[x] + sum(k * row[x] for k, row in zip(times, rows)) for x in range(l)]
+        if sums == counts:
+            return [0] + list(times)
+    return [-5]
+
+
+def random_counts(source, l, letters):
+    """Counts of l letters, so many together."""
+    counts = [0] * l
+    for letter in range(letters):
+        counts[source.randrange(l)] += 1
+    return counts
+
+
+def random_steps(seed, number):
+    """Bases and steps with small counts, the same for the same seed: (l, c, base, steps, counts).
+
+    Half of the counts are such as the steps come to.
+    """
+    source = random.Random(seed)
+    for case in range(number):
+        l = source.randint(1, 4)
+        c = source.randint(0, 5)
+        base = random_counts(source, l, source.randint(0, 3))
+        rows = [random_counts(source, l, source.randint(1, 3)) for step in range(c)]
+        if source.randrange(2):
+            counts = random_counts(source, l, source.randint(0, 9))
+        else:
+            counts = list(base)
+            for row in rows:
+                times = source.choice([0, 0, 1, 2])
+                counts = [count + times * number for count, number in zip(counts, row)]
+        if sum(counts) <= 12:
+            yield l, c, base, [number for row in rows for number in row], counts
+
+
 def random_cases(seed, number):
     """Grammars with small counts, the same for the same seed: (v, l, r, rules, counts)."""
     source = random.Random(seed)
@@ -138,7 +180,4 @@ def random_cases(seed, number):
                 rules.extend([source.randrange(v), source.randrange(v)])
             else:
                 rules.extend([source.randrange(l), 255])
-        counts = [0] * l
-        for letter in range(source.randint(0, 5)):
-            counts[source.randrange(l)] += 1
-        yield v, l, r, rules, counts
+        yield v, l, r, rules, random_counts(source, l, source.randint(0, 5))
